@@ -9,6 +9,10 @@ SHOWN = [1]
 BEST = [3]
 LAYERS = [4]
 
+# Both ends of the range of a number that is handed in for an item or a measure.
+LOWEST = -10 ** 18
+HIGHEST = 10 ** 18
+
 WORKED = (
     "measures price down, size up ; item a : 10, 5 ; item b : 8, 3 ; "
     "item c : 12, 9 ; item d : 12, 5 ; item e : 8, 3 ;"
@@ -26,6 +30,22 @@ def load(text):
 
 def beats(i, j):
     return [2, i, j]
+
+
+def beaters(i):
+    return [5, i]
+
+
+def beaten(i):
+    return [6, i]
+
+
+def gain(i, m):
+    return [7, i, m]
+
+
+def item(i):
+    return [8, i]
 
 
 def apart(flat):
@@ -49,6 +69,14 @@ def line(*calls):
     told = apart(answers(flat))
     if len(told) != len(calls):
         raise AssertionError(f"{len(calls)} calls, {len(told)} answers")
+    return told
+
+
+def asked(text, calls):
+    """What the calls answer about one list, over as many lines as it takes."""
+    told = []
+    for at in range(0, len(calls), MOST_CALLS - 1):
+        told.extend(line(load(text), *calls[at:at + MOST_CALLS - 1])[1:])
     return told
 
 
@@ -88,8 +116,43 @@ def plain_layers(ups, rows):
     return layers
 
 
+def plain_beaters(ups, rows, i):
+    return [j for j, row in enumerate(rows) if plainly_beats(ups, row, rows[i])]
+
+
+def plain_beaten(ups, rows, i):
+    return [j for j, row in enumerate(rows) if plainly_beats(ups, rows[i], row)]
+
+
+def plain_reasons(ups, rows, i):
+    among = plain_beaters(ups, rows, i)
+    return [j for j in among if not any(plainly_beats(ups, rows[k], rows[j]) for k in among)]
+
+
+def unbeaten_with(ups, rows, i, m, much):
+    """Whether nothing would beat item i if its value by measure m were better by so much."""
+    row = list(rows[i])
+    row[m] += much if ups[m] else -much
+    return not any(plainly_beats(ups, rows[j], row) for j in range(len(rows)) if j != i)
+
+
+def plain_gain(ups, rows, i, m):
+    much = 0
+    while not unbeaten_with(ups, rows, i, m, much):
+        much += 1
+    return much
+
+
+def plain_layer(ups, rows, i):
+    return [i in layer for layer in plain_layers(ups, rows)].index(True) + 1
+
+
+def counted(numbers):
+    return [len(numbers)] + list(numbers)
+
+
 def counted_layers(layers):
-    return [len(layers)] + [n for layer in layers for n in [len(layer)] + layer]
+    return [len(layers)] + [n for layer in layers for n in counted(layer)]
 
 
 def stepped(seed):
@@ -100,15 +163,20 @@ def stepped(seed):
         yield state // 65536
 
 
-def many_lists():
-    """Lists of 0 to 16 items by 1 to 4 measures, with few and with many different values."""
-    steps = stepped(7)
+def lists_of(spreads, seed):
+    """For each spread, lists of 0 to 16 items by 1 to 4 measures with so many different values."""
+    steps = stepped(seed)
     for size in range(17):
         for width in range(1, 5):
-            for spread in (2, 4, 2001):
+            for spread in spreads:
                 ups = [next(steps) % 2 == 0 for _ in range(width)]
                 rows = [
                     [next(steps) % spread - spread // 2 for _ in range(width)]
                     for _ in range(size)
                 ]
                 yield ups, rows
+
+
+def many_lists():
+    """Lists with few and with many different values."""
+    return lists_of((2, 4, 2001), 7)

@@ -3,9 +3,8 @@
 import itertools
 import unittest
 
-from lines import WORKED, beats, line, list_text, load, many_lists, plainly_beats, stepped
-
-END = 10 ** 18
+from lines import (HIGHEST, LOWEST, WORKED, asked, beats, line, list_text, load, many_lists,
+                   plainly_beats, stepped)
 
 
 def one_against_other(ups, row, other):
@@ -21,13 +20,9 @@ def plain_answer(ups, row, other):
 
 
 def matrix(text, size):
-    """What beats tells of every two items, gathered over as many lines as it takes."""
-    told = []
+    """What beats tells of every two items."""
     pairs = list(itertools.product(range(size), repeat=2))
-    for at in range(0, len(pairs), 50):
-        calls = [beats(i, j) for i, j in pairs[at:at + 50]]
-        told.extend(line(load(text), *calls)[1:])
-    return dict(zip(pairs, told))
+    return dict(zip(pairs, asked(text, [beats(i, j) for i, j in pairs])))
 
 
 class Beats(unittest.TestCase):
@@ -72,7 +67,8 @@ class Beats(unittest.TestCase):
         self.assertEqual(line(load(WORKED), *calls)[1:], [[3]] * 5)
 
     def test_no_such_item(self):
-        for wrong in (-1, 5, 6, -5, -2, 2 ** 31, 2 ** 32, 2 ** 63, END, -END, END - 1, 1 - END):
+        for wrong in (-1, 5, 6, -5, -2, 2 ** 31, 2 ** 32, 2 ** 63, HIGHEST, LOWEST, HIGHEST - 1,
+                      LOWEST + 1):
             with self.subTest(wrong=wrong):
                 told = line(load(WORKED), beats(wrong, 0), beats(0, wrong), beats(wrong, wrong),
                             beats(wrong, 4), beats(4, wrong), beats(4, 4), beats(0, 3))

@@ -155,6 +155,25 @@ class Language(unittest.TestCase):
                 if name not in ("__init__", "__eq__", "__repr__", "__str__", "__len__"):
                     self.assertRegex(name, r"\A[A-Za-z][A-Za-z0-9_]*\Z", path.name)
 
+    def test_no_parameter_or_local_is_called_like_an_import_or_a_class(self):
+        for path, tree in self.trees.items():
+            taken = {alias.name for part in tree.body if isinstance(part, ast.ImportFrom)
+                     for alias in part.names}
+            taken |= {part.name for part in tree.body if isinstance(part, ast.ClassDef)}
+            for part in tree.body:
+                if isinstance(part, (ast.FunctionDef, ast.ClassDef)):
+                    within = set(names_bound(part)) - {part.name}
+                    self.assertEqual(within & taken, set(), path.name)
+
+    def test_no_two_files_draw_from_one_another(self):
+        drawn = {path.stem: {node.module.split(".")[1] for node in ast.walk(tree)
+                             if isinstance(node, ast.ImportFrom)}
+                 for path, tree in self.trees.items()}
+        while drawn:
+            free = [stem for stem, others in drawn.items() if not others & set(drawn)]
+            self.assertNotEqual(free, [], sorted(drawn))
+            drawn = {stem: others for stem, others in drawn.items() if stem not in free}
+
     def test_names_that_are_read_are_the_files_own_or_pythons(self):
         for path, tree in self.trees.items():
             known = PYTHONS_NAMES | set(names_bound(tree))

@@ -37,6 +37,9 @@ class Listing:
     def has_item(self, number):
         return 0 <= number < len(self.members)
 
+    def has_measure(self, number):
+        return 0 <= number < len(self.measures)
+
 
 class Reader:
 
